@@ -1,0 +1,1 @@
+"""Bases by greed: what a function on sets lets its things have, shared out."""
