@@ -1,10 +1,8 @@
-"""The calls about one function on sets of things and one base of it.
+"""The calls about one function on sets of things and one base of it."""
 
-Things are 1 to n, five at most. A set of them is a number, the sum of 1 for
-thing 1, 2 for thing 2, 4 for thing 3, and so on. A function is a list: at
-each set's number what it is for that set. A base is a list: what each thing
-has, thing 1 first.
-"""
+from sharedout.sharing import as_fraction, as_fractions, base_by_greed, base_by_order, common_to_tight_sets
+from sharedout.sharing import different_corners, fairest_parts, in_parts, is_of_this_kind, lowest_with_too_much
+from sharedout.sharing import room_between, things_up_to, tight_sets, weight_met, worth_of
 
 TABLE_LENGTHS = (2, 4, 8, 16, 32)
 MOST_THINGS = 5
@@ -21,10 +19,16 @@ ORDER = 2
 GREED = 3
 CORNERS = 4
 IS_BASE = 5
+BASE = 6
+TIGHT = 7
+AROUND = 8
+ROOM = 9
+MOVE = 10
+FAIREST = 11
 
 # At each call's number: how many whole numbers it has, and how many rows.
-WHOLES_OF_CALL = (0, 1, 0, 0, 0, 0, 0)
-ROWS_OF_CALL = (1, 1, 1, 1, 0, 1, 0)
+WHOLES_OF_CALL = (0, 1, 0, 0, 0, 0, 0, 0, 1, 2, 2, 0, 0)
+ROWS_OF_CALL = (1, 1, 1, 1, 0, 1, 0, 0, 0, 0, 0, 0, 1)
 
 
 def whole(handed):
@@ -44,47 +48,6 @@ def is_within(row, most):
     return all([number <= most for number in row])
 
 
-def set_of(thing):
-    """The set that has this thing alone."""
-    return 1 << (thing - 1)
-
-
-def things_up_to(n):
-    """The things in their own order."""
-    return list(range(1, n + 1))
-
-
-def together(shares, chosen):
-    """What the things of a set have together."""
-    return sum([share for place, share in enumerate(shares) if (chosen & set_of(place + 1)) != 0])
-
-
-def brings(function, thing, chosen):
-    """What a thing brings to a set that it is not in."""
-    return function[chosen | set_of(thing)] - function[chosen]
-
-
-def never_brings_more(function, chosen, outside):
-    """Whether none of the things outside a set brings more once another of them is in it."""
-    for other in outside:
-        wider = chosen | set_of(other)
-        for thing in outside:
-            if thing != other and brings(function, thing, wider) > brings(function, thing, chosen):
-                return False
-    return True
-
-
-def is_of_this_kind(function, n):
-    """Whether it is 0 for no thing, and a thing brings no more, the more there is."""
-    if function[0] != 0:
-        return False
-    for chosen in range(len(function)):
-        outside = [thing for thing in things_up_to(n) if (chosen & set_of(thing)) == 0]
-        if not never_brings_more(function, chosen, outside):
-            return False
-    return True
-
-
 def is_points(n, row):
     """Whether the row is points that cover takes: of each its weight, then its set."""
     if len(row) % 2 != 0 or len(row) > 2 * MOST_POINTS:
@@ -92,61 +55,13 @@ def is_points(n, row):
     return is_within(row[0::2], MOST_WEIGHT) and is_within(row[1::2], TABLE_LENGTHS[n - 1] - 1)
 
 
-def weight_met(points, chosen):
-    """The weights, together, of the points whose set has something in common with this one."""
-    return sum([weight for weight, reach in zip(points[0::2], points[1::2]) if (reach & chosen) != 0])
-
-
-def base_by_order(function, things):
-    """The corner by this order: each thing has what it brings to those before it."""
-    shares = [0] * len(things)
-    before = 0
-    for thing in things:
-        shares[thing - 1] = brings(function, thing, before)
-        before = before | set_of(thing)
-    return shares
-
-
-def order_by_weight(weights):
-    """The things, the greatest weight first, of as great ones the lower thing."""
-    return sorted(things_up_to(len(weights)), key=lambda thing: (-weights[thing - 1], thing))
-
-
-def orders_of(n):
-    """Every order of the things."""
-    found = [[]]
-    for thing in things_up_to(n):
-        longer = []
-        for things in found:
-            for place in range(len(things) + 1):
-                longer.append(things[:place] + [thing] + things[place:])
-        found = longer
-    return found
-
-
-def different_corners(function, n):
-    """Every corner once, as tuples, in the order in which they are told."""
-    seen = {}
-    for things in orders_of(n):
-        seen[tuple(base_by_order(function, things))] = True
-    return sorted(seen.keys())
-
-
-def lowest_with_too_much(function, shares):
-    """The lowest set whose things have more than they may, or 0: no thing never has too much."""
-    for chosen in range(1, len(function)):
-        if together(shares, chosen) > function[chosen]:
-            return chosen
-    return 0
-
-
 class Desk:
-    """A function and a base of it, as the calls so far have left them."""
+    """A function and a base of it, in sixtieths, as the calls so far have left them."""
 
     def __init__(self):
         self.n = 1
         self.function = [0, 0]
-        self.shares = [0]
+        self.parts = [0]
 
     def take_function(self, n, function):
         """Make this the function, and answer it, if it is of the kind that has bases."""
@@ -154,12 +69,19 @@ class Desk:
             return [BAD_FUNCTION]
         self.n = n
         self.function = function
-        self.shares = base_by_order(function, things_up_to(n))
+        self.parts = in_parts(base_by_order(function, things_up_to(n)))
         return [n] + function
 
     def takes_row(self, row):
         """Whether the row has just one number for each thing, none of them too great."""
         return len(row) == self.n and is_within(row, MOST_HANDED)
+
+    def is_thing(self, number):
+        return number >= 1 and number <= self.n
+
+    def takes_pair(self, i, j):
+        """Whether these are two different things."""
+        return self.is_thing(i) and self.is_thing(j) and i != j
 
     def tell(self, row):
         if len(row) not in TABLE_LENGTHS or not is_within(row, MOST_HANDED):
@@ -175,16 +97,17 @@ class Desk:
     def order(self, things):
         if sorted(things) != things_up_to(self.n):
             return [BAD_NUMBERS]
-        self.shares = base_by_order(self.function, things)
-        return [self.n] + self.shares
+        shares = base_by_order(self.function, things)
+        self.parts = in_parts(shares)
+        return [self.n] + shares
 
     def greed(self, row):
         if not self.takes_row(row):
             return [BAD_NUMBERS]
         weights = wholes(row)
-        self.shares = base_by_order(self.function, order_by_weight(weights))
-        worth = sum([weight * share for weight, share in zip(weights, self.shares)])
-        return [worth] + self.shares
+        shares = base_by_greed(self.function, weights)
+        self.parts = in_parts(shares)
+        return [worth_of(shares, weights)] + shares
 
     def corners(self):
         found = different_corners(self.function, self.n)
@@ -205,11 +128,39 @@ class Desk:
         return [1]
 
     def base(self):
-        # Every base that these calls make is a corner, so whole: 1 is below each line.
-        answer = []
-        for share in self.shares:
-            answer.extend([share, 1])
-        return answer
+        return as_fractions(self.parts)
+
+    def tight(self):
+        found = tight_sets(self.function, self.parts)
+        return [len(found)] + found
+
+    def around(self, i):
+        if not self.is_thing(i):
+            return [BAD_NUMBERS]
+        return [common_to_tight_sets(self.function, self.parts, i)]
+
+    def room(self, i, j):
+        if not self.takes_pair(i, j):
+            return [BAD_NUMBERS]
+        return as_fraction(room_between(self.function, self.parts, i, j))
+
+    def move(self, i, j):
+        if not self.takes_pair(i, j):
+            return [BAD_NUMBERS]
+        moved = room_between(self.function, self.parts, i, j)
+        self.parts[i - 1] += moved
+        self.parts[j - 1] -= moved
+        return as_fraction(moved)
+
+    def fairest(self):
+        self.parts = fairest_parts(self.function, self.n)
+        return as_fractions(self.parts)
+
+    def stretch(self, row):
+        if not self.takes_row(row):
+            return [BAD_NUMBERS]
+        weights = wholes(row)
+        return [0, worth_of(base_by_greed(self.function, weights), weights)]
 
 
 def answer_of(desk, call, numbers, row):
@@ -226,8 +177,20 @@ def answer_of(desk, call, numbers, row):
         return desk.corners()
     if call == IS_BASE:
         return desk.is_base(row)
-    # Only base, 6, is left: a number that no call has was not found in the tables above.
-    return desk.base()
+    if call == BASE:
+        return desk.base()
+    if call == TIGHT:
+        return desk.tight()
+    if call == AROUND:
+        return desk.around(numbers[0])
+    if call == ROOM:
+        return desk.room(numbers[0], numbers[1])
+    if call == MOVE:
+        return desk.move(numbers[0], numbers[1])
+    if call == FAIREST:
+        return desk.fairest()
+    # Only stretch, 12, is left: a number that no call has was not found in the tables above.
+    return desk.stretch(row)
 
 
 def answers(calls):

@@ -62,6 +62,22 @@ class Form(unittest.TestCase):
             if isinstance(node, ast.Constant):
                 self.assertIn(type(node.value), (int, str, bool, type(None)))
 
+    def test_imports_come_from_the_file_that_defines_them(self):
+        trees = {f"sharedout.{path.stem}": ast.parse(path.read_text(encoding="ascii")) for path in sources()}
+        drawn = {module: [row for row in tree.body if isinstance(row, ast.ImportFrom)]
+                 for module, tree in trees.items()}
+        for module, rows in drawn.items():
+            bound = {node.arg for node in ast.walk(trees[module]) if isinstance(node, ast.arg)}
+            bound |= {node.id for node in ast.walk(trees[module]) if isinstance(node, ast.Name)
+                      and isinstance(node.ctx, ast.Store)}
+            for row in rows:
+                self.assertEqual(drawn[row.module], [], f"{module}: {row.module} draws from others itself")
+                defined = {node.name for node in trees[row.module].body if isinstance(node, ast.FunctionDef)}
+                for alias in row.names:
+                    self.assertIn(alias.name, defined)
+                    self.assertIsNone(alias.asname)
+                    self.assertNotIn(alias.name, bound, f"{module}: bound twice")
+
     def test_names(self):
         defined = {node.name for name, node in walked() if isinstance(node, ast.FunctionDef)}
         stored = {node.attr for name, node in walked() if isinstance(node, ast.Attribute)
